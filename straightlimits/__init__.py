@@ -1,0 +1,1 @@
+"""The most to be got within straight limits, with its proof."""
