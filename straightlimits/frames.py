@@ -1,22 +1,21 @@
 """The calls on a frame, read from one list of whole numbers and answered in one."""
 
-from straightlimits.reckoning import Frame, first_best, fraction, kind_of, turned, weighed
+from straightlimits.reckoning import Frame, aimed, first_best, first_best_whole, fraction, has_corner, has_end
+from straightlimits.reckoning import is_bounded, kind_of, lefts, negated, ordered_corners, shared_point, turned, ways
+from straightlimits.reckoning import weighed
 
 MOST_KINDS = 4
 MOST_LIMITS = 6
 MOST_SIZE = 1000
+MOST_WHOLE = 8
 
 NOT_AS_ASKED = -1
 NO_SUCH = -4
-NOT_OF_THIS_KIND = -5
-NO_MORE_ROOM = -6
+NONE_THERE = -5
+TOO_MANY = -6
 NO_FRAME = -9
 
 TAKE = 0
-
-
-class CallNotBuilt(NotImplementedError):
-    """The call is read, but nothing answers it yet."""
 
 
 class Desk:
@@ -83,7 +82,7 @@ def limit(desk, wholes, rows):
     if not is_row(rows[0], frame.kinds) or not are_small(wholes):
         return [NOT_AS_ASKED]
     if len(frame.rows) >= MOST_LIMITS:
-        return [NO_MORE_ROOM]
+        return [TOO_MANY]
     desk.frame = Frame(frame.kinds, frame.rows + [rows[0]], frame.mosts + [wholes[0]], frame.gain)
     return [len(frame.rows)]
 
@@ -98,10 +97,9 @@ def drop(desk, wholes, rows):
 
 
 def aim(desk, wholes, rows):
-    frame = desk.frame
-    if not is_row(rows[0], frame.kinds):
+    if not is_row(rows[0], desk.frame.kinds):
         return [NOT_AS_ASKED]
-    desk.frame = Frame(frame.kinds, frame.rows, frame.mosts, rows[0])
+    desk.frame = aimed(desk.frame, rows[0])
     return [0]
 
 
@@ -114,10 +112,10 @@ def told_list(numbers):
 
 
 def told_point(point):
-    told = []
+    numbers = []
     for upper in point[0]:
-        told.extend(fraction(upper, point[1]))
-    return told_list(told)
+        numbers.extend(fraction(upper, point[1]))
+    return told_list(numbers)
 
 
 def told_sum(numbers, point):
@@ -125,33 +123,105 @@ def told_sum(numbers, point):
     return told_list(fraction(weighed(numbers, point[0]), point[1]))
 
 
+def told_sum_and_point(numbers, point):
+    return told_sum(numbers, point) + told_point(point)
+
+
 def best(desk, wholes, rows):
     frame = desk.frame
     if kind_of(frame) != 1:
-        return [NOT_OF_THIS_KIND]
-    point = first_best(frame)
-    return [0] + told_sum(frame.gain, point) + told_point(point)
+        return [NONE_THERE]
+    return [0] + told_sum_and_point(frame.gain, first_best(frame))
 
 
 def prices(desk, wholes, rows):
     frame = desk.frame
     if kind_of(frame) != 1:
-        return [NOT_OF_THIS_KIND]
-    point = first_best(turned(frame))
-    return [0] + told_sum(frame.mosts, point) + told_point(point)
+        return [NONE_THERE]
+    return [0] + told_sum_and_point(frame.mosts, first_best(turned(frame)))
 
 
-def not_built(desk, wholes, rows):
-    raise CallNotBuilt("this call is not built yet")
+def why(desk, wholes, rows):
+    frame = desk.frame
+    found = kind_of(frame)
+    if found == 1:
+        return [NONE_THERE]
+    # The turned frame's gain is the cost with the other sign, just as it's to be told.
+    asked = ways(frame if found == 2 else turned(frame))
+    return [found] + told_sum_and_point(asked.gain, first_best(asked))
+
+
+def corners(desk, wholes, rows):
+    points = ordered_corners(desk.frame)
+    numbers = [len(points)]
+    for point in points:
+        numbers.extend(told_point(point))
+    return numbers
+
+
+def is_point(numbers, kinds):
+    return len(numbers) == 2 * kinds and all([lower > 0 for lower in numbers[1::2]])
+
+
+def check(desk, wholes, rows):
+    frame = desk.frame
+    if not is_point(rows[0], frame.kinds):
+        return [NOT_AS_ASKED]
+    point = shared_point(rows[0])
+    broken = [place for place, left in enumerate(lefts(frame, point)) if left < 0]
+    if broken:
+        return [0] + told_list(broken[:1])
+    return [1] + told_sum(frame.gain, point)
+
+
+def met(desk, wholes, rows):
+    frame = desk.frame
+    if not is_point(rows[0], frame.kinds):
+        return [NOT_AS_ASKED]
+    places = [place for place, left in enumerate(lefts(frame, shared_point(rows[0]))) if left == 0]
+    return [len(places)] + told_list(places)
+
+
+def span(desk, wholes, rows):
+    """The call range, whose name is Python's own."""
+    frame = desk.frame
+    if wholes[0] >= frame.kinds:
+        return [NO_SUCH]
+    if not has_corner(frame):
+        return [NONE_THERE]
+    # With this gain what's got is the amount of the kind that is asked for.
+    gain = [1 if place == wholes[0] else 0 for place in range(frame.kinds)]
+    least = told_sum(gain, first_best(aimed(frame, negated(gain))))
+    rising = aimed(frame, gain)
+    if not has_end(rising):
+        return [1] + least
+    return [0] + least + told_sum(gain, first_best(rising))
+
+
+def whole(desk, wholes, rows):
+    frame = desk.frame
+    if not has_corner(frame):
+        return [NONE_THERE]
+    if not is_bounded(frame, MOST_WHOLE):
+        return [TOO_MANY]
+    point = first_best_whole(frame, MOST_WHOLE)
+    if point is None:
+        return [NONE_THERE]
+    return [0] + told_sum_and_point(frame.gain, point)
+
+
+def told(desk, wholes, rows):
+    frame = desk.frame
+    numbers = []
+    for row, most in zip(frame.rows, frame.mosts):
+        numbers.extend(row + [most])
+    return [frame.kinds] + told_list(numbers) + told_list(frame.gain)
 
 
 # By a call's number: take, limit, drop, aim, kind, best, prices, why, corners, check, met, range, whole, told.
 WHOLES = (1, 1, 1, 0, 0, 0, 0, 0, 0, 0, 0, 1, 0, 0)
 ROWS = (3, 1, 0, 1, 0, 0, 0, 0, 0, 1, 1, 0, 0, 0)
-ACTS = (
-    take, limit, drop, aim, kind, best, prices,
-    not_built, not_built, not_built, not_built, not_built, not_built, not_built,
-)
+ACTS = (take, limit, drop, aim, kind, best, prices, why, corners, check, met, span, whole, told)
 
 
 def answer(desk, reader):
@@ -169,7 +239,7 @@ def answers(calls):
     """The answers to the calls, each with how many numbers it has ahead of it."""
     desk = Desk()
     reader = Reader(calls)
-    told = []
+    numbers = []
     while reader.has_more():
-        told.extend(told_list(answer(desk, reader)))
-    return told
+        numbers.extend(told_list(answer(desk, reader)))
+    return numbers

@@ -14,6 +14,11 @@ class Frame:
         self.gain = gain
 
 
+def aimed(frame, gain):
+    """The same limits with another gain."""
+    return Frame(frame.kinds, frame.rows, frame.mosts, gain)
+
+
 def negated(numbers):
     return [-number for number in numbers]
 
@@ -30,6 +35,15 @@ def turned(frame):
     """
     rows = [negated(column(frame.rows, kind)) for kind in range(frame.kinds)]
     return Frame(len(frame.rows), rows, negated(frame.gain), negated(frame.mosts))
+
+
+def ways(frame):
+    """The frame whose points are the ways of this one; their bounded sum sees to it that there is a best.
+
+    The ways of the turned frame are the fractions among which the proof that nothing is within is found.
+    """
+    rows = frame.rows + [[1] * frame.kinds]
+    return Frame(frame.kinds, rows, [0] * len(frame.rows) + [1], frame.gain)
 
 
 def weighed(numbers, amounts):
@@ -104,10 +118,17 @@ def meeting_point(frame, used, met):
     return (uppers, solved[1])
 
 
+def lefts(frame, point):
+    """Of each limit what is left of its most, then each kind's amount, all times the point's lower.
+
+    In the document's numbering, so that what is below 0 isn't kept, and what is 0 is met.
+    """
+    left = [most * point[1] - weighed(row, point[0]) for row, most in zip(frame.rows, frame.mosts)]
+    return left + point[0]
+
+
 def is_within(frame, point):
-    if any([upper < 0 for upper in point[0]]):
-        return False
-    return all([weighed(row, point[0]) <= most * point[1] for row, most in zip(frame.rows, frame.mosts)])
+    return all([left >= 0 for left in lefts(frame, point)])
 
 
 def corner_at(frame, square):
@@ -118,7 +139,7 @@ def corner_at(frame, square):
     return point
 
 
-def corners(frame):
+def corner_points(frame):
     """Every corner, in no order, some of them several times.
 
     A corner is the only point that meets all that it meets. So out of the limits
@@ -136,11 +157,15 @@ def has_corner(frame):
     return False
 
 
+def has_end(frame):
+    """Whether there is an end to what's got, if anything is within: just where there are prices."""
+    return has_corner(turned(frame))
+
+
 def kind_of(frame):
-    """0, 1 or 2. There is an end to what's got just where there are prices."""
     if not has_corner(frame):
         return 0
-    return 1 if has_corner(turned(frame)) else 2
+    return 1 if has_end(frame) else 2
 
 
 def is_before(point, other):
@@ -150,6 +175,18 @@ def is_before(point, other):
         if difference != 0:
             return difference < 0
     return False
+
+
+def ordered_corners(frame):
+    """Every corner once, in the order of points."""
+    found = []
+    for point in corner_points(frame):
+        place = 0
+        while place < len(found) and is_before(found[place], point):
+            place = place + 1
+        if place == len(found) or is_before(point, found[place]):
+            found.insert(place, point)
+    return found
 
 
 def is_better(gain, point, other):
@@ -166,12 +203,74 @@ def first_best(frame):
     It is a corner: were it between two others within, both would get as much,
     and one of them would come ahead of it.
     """
-    points = corners(frame)
+    points = corner_points(frame)
     chosen = points[0]
     for point in points:
         if is_better(frame.gain, point, chosen):
             chosen = point
     return chosen
+
+
+def is_bounded(frame, most):
+    """Whether of no kind there is more than most within, where something is within.
+
+    If there is no end to the kinds together there is none to one of them; else the greatest amounts are at corners.
+    """
+    if not has_end(aimed(frame, [1] * frame.kinds)):
+        return False
+    return all([max(point[0]) <= most * point[1] for point in corner_points(frame)])
+
+
+def whole_rows(many, most):
+    """Every row of so many whole numbers from 0 to most."""
+    found = [[]]
+    for count in range(many):
+        longer = []
+        for numbers in found:
+            longer.extend([numbers + [number] for number in range(most + 1)])
+        found = longer
+    return found
+
+
+def last_amounts(frame, amounts, most):
+    """The whole amounts of the last kind, from 0 to most, that keep the limits beside these amounts of the others."""
+    least = 0
+    greatest = most
+    for row, limit_most in zip(frame.rows, frame.mosts):
+        left = limit_most - weighed(row[:-1], amounts)
+        if row[-1] > 0:
+            greatest = min(greatest, left // row[-1])
+        elif row[-1] < 0:
+            # Rounded up, as the amount must be at least that.
+            least = max(least, -(left // -row[-1]))
+        elif left < 0:
+            return []
+    return list(range(least, greatest + 1))
+
+
+def first_best_whole(frame, most):
+    """The first of the best points within whose amounts are whole and at most most; None if there isn't one.
+
+    The last kind's amount follows from the others, which spares going through all of its amounts.
+    """
+    chosen = None
+    for amounts in whole_rows(frame.kinds - 1, most):
+        lasts = last_amounts(frame, amounts, most)
+        if lasts:
+            last = lasts[-1] if frame.gain[-1] > 0 else lasts[0]
+            point = (amounts + [last], 1)
+            if chosen is None or is_better(frame.gain, point, chosen):
+                chosen = point
+    return chosen
+
+
+def shared_point(numbers):
+    """The point whose amounts are told as fractions, each an upper and a lower above 0."""
+    lower = 1
+    for own in numbers[1::2]:
+        lower = lower * own
+    uppers = [upper * (lower // own) for upper, own in zip(numbers[::2], numbers[1::2])]
+    return (uppers, lower)
 
 
 def common_measure(one, other):

@@ -2,7 +2,9 @@
 
 import unittest
 
-from tests.helper import BEST, GREATEST, KIND, PRICES, aim, ask, drop, last, limit, row, take
+from tests.helper import (
+    BEST, CORNERS, GREATEST, KIND, PRICES, TOLD, WHOLE, WHY, aim, ask, check, drop, last, limit, met, reach, take,
+)
 
 TOO_MUCH = [1001, -1001, GREATEST, -GREATEST]
 # Three kinds, each with a limit of its own: best and prices tell every number of it.
@@ -178,8 +180,8 @@ class Aim(unittest.TestCase):
 
 class WithoutFrame(unittest.TestCase):
     def test_all_but_take_is_refused(self):
-        calls = [limit(1, [1]), drop(0), drop(GREATEST), aim([1]), aim([]), KIND, BEST, PRICES, [7], [8],
-                 [9] + row([1, 1]), [9] + row([]), [10] + row([1, 0]), [11, 0], [11, GREATEST], [12], [13]]
+        calls = [limit(1, [1]), drop(0), drop(GREATEST), aim([1]), aim([]), KIND, BEST, PRICES, WHY, CORNERS,
+                 check([1, 1]), check([]), met([1, 0]), met([]), reach(0), reach(GREATEST), WHOLE, TOLD]
         for call in calls:
             self.assertEqual(ask(call), [[-9]])
         self.assertEqual(ask(*calls), [[-9]] * len(calls))
